@@ -1,0 +1,1 @@
+"""Fleuron: a font house."""
