@@ -87,6 +87,21 @@ def copied_lookup(lookup):
     return Lookup(lookup.kind, lookup.rules, ignore=lookup.ignore)
 
 
+def copied_font(font):
+    """Return a font that shares nothing with the given one that can change."""
+    return Font(
+        font.unit,
+        font.glyphs,
+        chars=font.chars,
+        lookups=font.lookups,
+        features=font.features,
+        axes=font.axes,
+        regions=font.regions,
+        functions=font.functions,
+        presets=font.presets,
+    )
+
+
 def glyph_of(font, code):
     """Return the glyph of a code, or None if the font has none."""
     for known, glyph in font.chars:

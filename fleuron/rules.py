@@ -57,53 +57,58 @@ def are_in_sets(run, indexes, sets):
 
 def apply_rules(font, lookup, run, forms=()):
     """Return the run behind the lookup."""
+    return applied(font, lookup, run, forms, lambda number, items, at, these: match(font, number, items, at, these))
+
+
+def applied(font, lookup, run, forms, rule_at):
+    """Return the run behind the lookup, if rule_at(lookup, run, at, forms) tells the rule that counts."""
     kind = font.lookups[lookup].kind
     if kind not in REPLACING:
         return list(run)
     if kind == "reverse":
-        walked = walked_back(font, lookup, run, forms)
+        walked = walked_back(font, lookup, run, forms, rule_at)
     else:
-        walked = walked_on(font, lookup, run, forms)
+        walked = walked_on(font, lookup, run, forms, rule_at)
     if len(walked) > MOST_ITEMS:
         raise TooLarge("run")
     return walked
 
 
-def walked_on(font, lookup, run, forms):
+def walked_on(font, lookup, run, forms, rule_at):
     """Return the run behind a walk from the left to the right."""
     items = list(run)
     at = 0
     while at < len(items):
-        rule = match(font, lookup, items, at, forms)
+        rule = rule_at(lookup, items, at, forms)
         if rule is None:
             at += 1
         else:
-            matched = matched_items(font, lookup, items, at, rule)
-            made = what_becomes(font, lookup, rule, items, matched)
+            counting = font.lookups[lookup].rules[rule]
+            matched = seen_items(font, lookup, items, at, 1, len(counting.inside))
+            made = what_becomes(font, lookup, counting, items, matched, rule_at)
             items[at:matched[-1] + 1] = made
             at += len(made)
     return items
 
 
-def walked_back(font, lookup, run, forms):
+def walked_back(font, lookup, run, forms, rule_at):
     """Return the run behind a walk from the last item to the first."""
     items = list(run)
     for at in range(len(items) - 1, -1, -1):
-        rule = match(font, lookup, items, at, forms)
+        rule = rule_at(lookup, items, at, forms)
         if rule is not None:
             items[at] = swapped(font, font.lookups[lookup].rules[rule], items[at])
     return items
 
 
-def what_becomes(font, lookup, rule, items, matched):
+def what_becomes(font, lookup, rule, items, matched, rule_at):
     """Return what the matched items, and those between them, become."""
     kind = font.lookups[lookup].kind
-    counting = font.lookups[lookup].rules[rule]
     if kind == "ligature":
-        return joined(font, counting, items, matched)
+        return joined(font, rule, items, matched)
     if kind == "chain":
-        return called(font, counting, items, matched)
-    return replaced(font, kind, counting, items[matched[0]])
+        return called(font, rule, items, matched, rule_at)
+    return replaced(font, kind, rule, items[matched[0]])
 
 
 def replaced(font, kind, rule, item):
@@ -127,20 +132,20 @@ def joined(font, rule, items, matched):
     return [first] + [(item[0], cluster) + item[2:] for item in passed]
 
 
-def called(font, rule, items, matched):
+def called(font, rule, items, matched, rule_at):
     """Return what the items of a chain become by the lookups that its rule calls."""
     made = items[matched[0]:matched[-1] + 1]
     # From the last call to the first, so that the places of the earlier items stay.
     for index, lookup in reversed(rule.calls):
         place = matched[index] - matched[0]
-        made[place:place + 1] = called_at(font, lookup, made[place])
+        made[place:place + 1] = called_at(font, lookup, made[place], rule_at)
     return made
 
 
-def called_at(font, lookup, item):
+def called_at(font, lookup, item, rule_at):
     """Return the items that an item becomes by a lookup that a chain calls."""
     # Such a lookup has one set inside and no others, so that the item alone decides.
-    rule = match(font, lookup, [item], 0)
+    rule = rule_at(lookup, [item], 0, ())
     if rule is None:
         return [item]
     return replaced(font, font.lookups[lookup].kind, font.lookups[lookup].rules[rule], item)

@@ -122,8 +122,8 @@ class LanguageTest(unittest.TestCase):
                     self.assertEqual([given for given in inner if given in taken], [], (name, node.name))
 
     def test_builtins_and_methods(self):
+        functions = [node.name for _, tree in trees() for node in ast.walk(tree) if isinstance(node, ast.FunctionDef)]
         for name, tree in trees():
-            functions = [node.name for node in ast.walk(tree) if isinstance(node, ast.FunctionDef)]
             for node in ast.walk(tree):
                 if isinstance(node, ast.Name) and node.id in BUILTIN_NAMES:
                     self.assertIn(node.id, ALLOWED_BUILTINS, (name, node.lineno))

@@ -7,23 +7,7 @@ import unittest
 from fleuron.errors import TooLarge
 from fleuron.fonts import Font, Glyph, Lookup, Rule, same_font
 from fleuron.rules import apply_rules, match, matched_items, sees
-
-# Six glyphs with the advances 10 to 60, and the marks 6 and 7.
-GLYPHS = [Glyph(10 * k, []) for k in range(1, 7)] + [Glyph(7, [], mark=True), Glyph(8, [], mark=True)]
-ADVANCES = [10, 20, 30, 40, 50, 60, 7, 8]
-
-
-def font_with(*lookups):
-    """Return a font with the lookups."""
-    return Font(100, GLYPHS, lookups=lookups)
-
-
-def run_of(glyphs, forms=None):
-    """Return a run of the glyphs, each a cluster of its own, with offsets that are not 0."""
-    return [
-        (glyph, k, 0 if forms is None else forms[k], ADVANCES[glyph] + 1, 100 + k, -k)
-        for k, glyph in enumerate(glyphs)
-    ]
+from tests.samples import ADVANCES, font_with, run_of, some_lookups
 
 
 def new(glyph, cluster, form=0):
@@ -396,42 +380,6 @@ class LimitTest(unittest.TestCase):
         run = run_of([0] * 1001)
         self.assert_refused(font, run)
         self.assertEqual(run, run_of([0] * 1001))
-
-
-def some_lookups(source):
-    """Return lookups of all kinds that replace, with random rules."""
-    def chosen():
-        return sorted(source.sample(range(8), source.randint(1, 5)))
-
-    def sets(least, most):
-        return [chosen() for _ in range(source.randint(least, most))]
-
-    def out(many):
-        return [source.randrange(8) for _ in range(many)]
-
-    def flag():
-        return source.random() < 0.5
-
-    def replacing():
-        inside = chosen()
-        return Rule([inside], out=out(len(inside)))
-
-    def reverse():
-        inside = chosen()
-        return Rule([inside], back=sets(0, 2), ahead=sets(0, 2), out=out(len(inside)))
-
-    def chain():
-        inside = sets(1, 3)
-        calls = [(index, source.randrange(2)) for index in range(len(inside)) if flag()]
-        return Rule(inside, back=sets(0, 2), ahead=sets(0, 2), calls=calls)
-
-    return [
-        Lookup("single", [replacing() for _ in range(3)], ignore=flag()),
-        Lookup("multiple", [Rule([chosen()], out=out(source.randint(0, 4))) for _ in range(3)], ignore=flag()),
-        Lookup("ligature", [Rule(sets(2, 3), out=out(1)) for _ in range(3)], ignore=flag()),
-        Lookup("chain", [chain() for _ in range(3)], ignore=flag()),
-        Lookup("reverse", [reverse() for _ in range(3)], ignore=flag()),
-    ]
 
 
 class FactsTest(unittest.TestCase):
