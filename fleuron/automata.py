@@ -5,6 +5,7 @@ glyph of the font, and for each state the rules that count as met in it.
 """
 
 from fleuron.errors import TooLarge
+from fleuron.rows import is_rising
 
 MOST_STATES = 500
 
@@ -98,17 +99,7 @@ def side_fits(font, side, many_rules):
     for row in rows:
         if len(row) != len(font.glyphs) or not all([0 <= state < len(rows) for state in row]):
             return False
-    return all([are_rules(rules, many_rules) for rules in met])
-
-
-def are_rules(rules, many):
-    """Return True if the list ascends, without duplicates, and its numbers are below many."""
-    last = -1
-    for rule in rules:
-        if not last < rule < many:
-            return False
-        last = rule
-    return True
+    return all([is_rising(rules, many_rules) for rules in met])
 
 
 def build(font, lookup):

@@ -4,6 +4,7 @@ from fleuron.depths import depths_of
 from fleuron.letters import is_row_of_letters
 from fleuron.lookup_faults import lookup_reason
 from fleuron.outlines import FARTHEST, count_points, is_proper
+from fleuron.rows import is_rising
 from fleuron.words import is_instruction
 
 ANCHOR_KINDS = ("base", "mark", "entry", "exit")
@@ -139,16 +140,6 @@ def features_reason(font):
         if not is_rising(numbers, len(font.lookups)):
             return "the lookups of a feature do not ascend, or one does not exist"
     return many_reason(font.features, 0, 12)
-
-
-def is_rising(numbers, many):
-    """Return True if the list ascends, without duplicates, and its numbers are below many."""
-    last = -1
-    for number in numbers:
-        if not last < number < many:
-            return False
-        last = number
-    return True
 
 
 def axes_reason(font):

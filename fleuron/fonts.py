@@ -2,6 +2,7 @@
 
 from fleuron.errors import InvalidFont
 from fleuron.faults import first_fault
+from fleuron.rows import tuples_of
 
 
 class Glyph:
@@ -55,11 +56,6 @@ class Font:
         fault = first_fault(self)
         if fault is not None:
             raise InvalidFont(fault[0], fault[1])
-
-
-def tuples_of(rows):
-    """Return a new list of the rows, each a tuple."""
-    return [tuple(row) for row in rows]
 
 
 def copied_glyph(glyph):

@@ -1,6 +1,7 @@
 """What the lookups of a font are checked for."""
 
 from fleuron.outlines import FARTHEST
+from fleuron.rows import is_rising
 
 MOST_RULES = 12
 MOST_AROUND = 3
@@ -50,12 +51,7 @@ def sets_reason(font, kind, rule):
 
 def is_set(font, chosen):
     """Return True if the list is an ascending one of glyphs of the font, without duplicates."""
-    last = -1
-    for glyph in chosen:
-        if not last < glyph < len(font.glyphs):
-            return False
-        last = glyph
-    return len(chosen) > 0
+    return len(chosen) > 0 and is_rising(chosen, len(font.glyphs))
 
 
 def out_reason(font, kind, rule):

@@ -142,6 +142,12 @@ class LanguageTest(unittest.TestCase):
                     words = node.value.replace(".", " ").split()
                     self.assertEqual([word for word in words if word in UNUSED_WORDS], [], (name, node.lineno))
 
+    def test_attributes_are_assigned_through_a_name(self):
+        for name, tree in trees():
+            for node in ast.walk(tree):
+                if isinstance(node, ast.Attribute) and not isinstance(node.ctx, ast.Load):
+                    self.assertIsInstance(node.value, ast.Name, (name, node.lineno))
+
     def test_no_two_files_import_from_each_other(self):
         imported = {}
         for name, tree in trees():

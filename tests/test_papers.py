@@ -239,6 +239,9 @@ class AcceptTest(unittest.TestCase):
                 for status in ([0, 0], [-1, -1], [1, 1]):
                     paper = pairs + [(state, status)]
                     self.assertIs(accepts_paper(self.font, 0, self.automaton, side, paper), False)
+            for state, status in pairs:
+                paper = pairs + [(state - many, status)]
+                self.assertIs(accepts_paper(self.font, 0, self.automaton, side, paper), False)
 
     def test_numbers_beyond_the_lengths_raise_no_error(self):
         for side, pairs in self.papers():
