@@ -105,9 +105,16 @@ def coming_by_rule(font, lookup, rule, known):
             row = [choice[0] for choice in choices]
             # What comes depends on this one of the glyphs alone.
             row[index] = glyph
-            reason = ("rule", lookup, rule, row) if call is None else ("call", lookup, rule, row, call)
-            pairs.extend([(put, reason) for put in glyphs_put(font, lookup, rule, row, call)])
+            for put in glyphs_put(font, lookup, rule, row, call):
+                pairs.append((put, reason_by(lookup, rule, row, call)))
     return pairs
+
+
+def reason_by(lookup, rule, row, call):
+    """Return the reason that something comes of a list by a rule, or by a call of it."""
+    if call is None:
+        return ("rule", lookup, rule, list(row))
+    return ("call", lookup, rule, list(row), call)
 
 
 def sets_of(rule):

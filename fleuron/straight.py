@@ -76,7 +76,7 @@ class Builder:
             elif word == "call":
                 chunks.append(self.called(number, base + item[0], repeated))
             elif word == "repeat":
-                chunks.append(self.rounds(number, base + item[0] - 1, repeated))
+                chunks.append(self.in_rounds(number, base + item[0] - 1, repeated))
             else:
                 chunks.append(chunk_of(word, number, base + item[0]))
         return chunks_in_order(code, chunks)
@@ -85,7 +85,7 @@ class Builder:
         """Return the straight code of a function."""
         return self.block(self.functions[number], self.tables[number], base, repeated)
 
-    def rounds(self, number, base, repeated):
+    def in_rounds(self, number, base, repeated):
         """Return the straight code of a repeated function, for the value that is in the register of the base."""
         body = self.called(number, base, repeated + 1)
         # The function writes over the register of the value, so a counter keeps it.
@@ -191,7 +191,7 @@ class Board:
         if word in ("push", "size", "take") or WORDS[word][1] == 1:
             self.registers[step[1]] = self.number_for(step)
         elif WORDS[word][0] == 2:
-            self.ground.work(word, 0, self.values(step[1:]))
+            self.ground.work(word, 0, self.numbers_in(step[1:]))
         else:
             self.ground.work(word, kept(step[1]), [])
         return 0
@@ -210,11 +210,11 @@ class Board:
             return kept(step[2])
         if step[0] == "take":
             return self.registers[step[2]]
-        return self.ground.number_put(step[0], self.values(step[2:]))
+        return self.ground.number_put(step[0], self.numbers_in(step[2:]))
 
-    def values(self, numbers):
+    def numbers_in(self, registers):
         """Return the numbers in the registers."""
-        return [self.registers[a] for a in numbers]
+        return [self.registers[a] for a in registers]
 
 
 def run_code(code, program, zone):

@@ -130,6 +130,15 @@ class LanguageTest(unittest.TestCase):
                 if isinstance(node, ast.Call) and isinstance(node.func, ast.Attribute):
                     self.assertIn(node.func.attr, ALLOWED_METHODS + functions, (name, node.lineno))
 
+    def test_names_of_methods(self):
+        taken = [name for kind in (str, int, list, dict, set, bytes) for name in dir(kind) if not name.startswith("__")]
+        for name, tree in trees():
+            methods = [
+                part.name for node in ast.walk(tree) if isinstance(node, ast.ClassDef)
+                for part in node.body if isinstance(part, ast.FunctionDef)
+            ]
+            self.assertEqual([method for method in methods if method in taken], [], name)
+
     def test_words_in_strings(self):
         for name, tree in trees():
             docstrings = [
