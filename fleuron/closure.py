@@ -27,12 +27,14 @@ def reasons(font, codes, features, glyph):
     needed = {glyph: True}
     waiting = [glyph]
     while waiting:
-        for base in bases_of(found[waiting.pop()][1]):
+        bases = bases_of(found[waiting.pop()][1])
+        for base in bases:
             if base not in needed:
                 needed[base] = True
                 waiting.append(base)
     # A glyph is based on glyphs of lesser ranks alone.
-    return [(number, found[number][1]) for number in sorted(needed, key=lambda number: (found[number][0], number))]
+    in_order = sorted(needed, key=lambda base: (found[base][0], base))
+    return [(number, found[number][1]) for number in in_order]
 
 
 def accepts_reasons(font, codes, features, row):
@@ -74,7 +76,8 @@ def found_glyphs(font, codes, features):
     while many < len(found):
         many = len(found)
         rank += 1
-        for glyph, reason in coming(font, lookups, sorted(found)):
+        pairs = coming(font, lookups, sorted(found))
+        for glyph, reason in pairs:
             if glyph not in found:
                 found[glyph] = (rank, reason)
     return found

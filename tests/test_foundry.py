@@ -259,6 +259,7 @@ class ManyFontsTest(unittest.TestCase):
             drawing = self.outcome(draw, font, codes, names, place, size, tables)
             self.assertEqual(self.outcome(draw_by_rules, font, codes, names, place, size, tables), drawing)
             self.assertEqual(self.outcome(draw_small, font, codes, names, place, size, tables), drawing)
+            self.assertEqual(self.outcome(draw, font, codes, names, place, size, tables), drawing)
             self.assertTrue(same_font(font, before[0]))
             self.assertEqual((codes, names, tables, place), before[1:])
             if isinstance(drawing[0], list):
