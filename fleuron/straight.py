@@ -11,16 +11,17 @@ MOST_STEPS = 2000
 MOST_SIZE = 2000
 SPARE = 63
 SKIPPING = ("jump", "jumpzero", "jumpsmall")
-# What stands behind the words that straight code alone has, or has in another form than the machine.
+# What stands behind the words that straight code alone has, or has in another form than the machine; a place is the
+# number of a register, and many are as many registers.
 FORMS = {
-    "push": ("register", "number"), "size": ("register",), "take": ("register", "register"),
-    "jump": ("skip",), "jumpzero": ("register", "skip"), "jumpsmall": ("register", "number", "skip"),
+    "push": ("place", "number"), "size": ("place",), "take": ("place", "place"),
+    "jump": ("skip",), "jumpzero": ("place", "skip"), "jumpsmall": ("place", "number", "skip"),
     "end": ("many",),
 }
 # What stands behind the other words, by how many values they take and put.
 FORMS_BY_VALUES = {
-    (1, 1): ("register", "register"), (2, 1): ("register", "register", "register"),
-    (2, 0): ("register", "register"), (0, 0): ("number",),
+    (1, 1): ("place", "place"), (2, 1): ("place", "place", "place"),
+    (2, 0): ("place", "place"), (0, 0): ("number",),
 }
 
 
@@ -169,7 +170,7 @@ def is_argument(n, kind):
     """Return True if n can stand where an argument of the kind stands."""
     if not isinstance(n, int) or isinstance(n, bool):
         return False
-    if kind == "register":
+    if kind == "place":
         return 0 <= n < REGISTERS
     if kind == "many":
         return 0 <= n <= REGISTERS
